@@ -1,0 +1,1 @@
+"""respell: texts of code points rewritten by rules."""
