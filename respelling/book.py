@@ -1,7 +1,7 @@
 """The sets, maps and rules that one list of calls makes and asks."""
 
-from respelling.parts import first_wrong_item, split_items
-from respelling.points import are_paired, is_code_point, pairs_of
+from respelling.parts import AFTER, BEFORE, MATCH, elements_of, first_wrong_item, split_items, writers_of
+from respelling.points import are_code_points, are_paired, in_ranges, is_code_point, pairs_of
 
 MOST_RANGES = 64
 MOST_PAIRS = 256
@@ -12,9 +12,14 @@ LAST_PASS = 7
 
 
 class Rule:
-    def __init__(self, pass_number, row):
+    def __init__(self, number, pass_number, row):
+        self.number = number
         self.pass_number = pass_number
-        self.row = row
+        # Befores take from left's end, the last one first.
+        self.befores = list(reversed(elements_of(row, BEFORE)))
+        self.matches = elements_of(row, MATCH)
+        self.afters = elements_of(row, AFTER)
+        self.writers = writers_of(row)
         self.in_effect = True
 
 
@@ -41,7 +46,7 @@ class Book:
         pairs = pairs_of(numbers)
         table = dict(pairs)
         # A from that comes twice has only one place in the table.
-        if len(table) < len(pairs) or not all([is_code_point(number) for number in numbers]):
+        if len(table) < len(pairs) or not are_code_points(numbers):
             return [-2]
         if len(self.maps) >= MOST_MAPS:
             return [-3]
@@ -57,7 +62,7 @@ class Book:
             return [-3, wrong]
         if len(self.rules) >= MOST_RULES:
             return [-4]
-        self.rules.append(Rule(pass_number, row))
+        self.rules.append(Rule(len(self.rules), pass_number, row))
         return [len(self.rules) - 1]
 
     def turn_rule(self, rule_number, on):
@@ -70,6 +75,18 @@ class Book:
     def ask_set(self, set_number, point):
         if set_number >= len(self.sets):
             return [-1]
-        ranges = self.sets[set_number]
         # Answers are whole numbers, never True or False.
-        return [1 if any([first <= point <= last for first, last in ranges]) else 0]
+        return [1 if in_ranges(point, self.sets[set_number]) else 0]
+
+    def ask_map(self, map_number, point):
+        if map_number >= len(self.maps):
+            return [-1]
+        return [self.maps[map_number].get(point, point)]
+
+    def find_place(self, set_number, start, points):
+        if set_number >= len(self.sets):
+            return [-1]
+        for place in range(start, len(points)):
+            if in_ranges(points[place], self.sets[set_number]):
+                return [place]
+        return [len(points)]

@@ -83,6 +83,14 @@ def count_kind(row, kind):
     return len([item for item in row if item[0] == kind])
 
 
+def elements_of(row, kind):
+    return [item[1:] for item in row if item[0] == kind]
+
+
+def writers_of(row):
+    return [item for item in row if item[0] >= PUT]
+
+
 def is_element(numbers, set_count):
     of = numbers[0]
     a = numbers[1]

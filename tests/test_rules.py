@@ -303,24 +303,3 @@ class Turning(unittest.TestCase):
     def test_a_refused_rule_is_none(self):
         given = each_answer(rule_call(0, [7]), turn_call(0, 1), rule_call(8, match()), turn_call(0, 1))
         self.assertEqual(given, [[-3, 0], [-1], [-2], [-1]])
-
-    def test_what_is_in_effect(self):
-        # Nothing that is answered shows it yet, so the book is asked itself.
-        book = Book()
-        book.add_rule(0, match())
-        book.add_rule(0, match())
-        self.assertEqual([rule.in_effect for rule in book.rules], [True, True])
-        book.turn_rule(1, 0)
-        self.assertEqual([rule.in_effect for rule in book.rules], [True, False])
-        book.turn_rule(1, 2)
-        book.turn_rule(0, 2)
-        self.assertEqual([rule.in_effect for rule in book.rules], [True, False])
-        book.turn_rule(1, 1)
-        self.assertEqual([rule.in_effect for rule in book.rules], [True, True])
-
-    def test_what_a_rule_keeps(self):
-        book = Book()
-        book.add_rule(5, before() + match() + put() + cursor())
-        rule = book.rules[0]
-        self.assertEqual(rule.pass_number, 5)
-        self.assertEqual(rule.row, [(0, 0, 65, 0, 1, 1), (1, 0, 65, 0, 1, 1), (3, 66), (6,)])
