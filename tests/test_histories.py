@@ -30,8 +30,8 @@ class LaterCalls(unittest.TestCase):
             a_set("aa"), a_map("ax"), rule(match(of=1, a=0), mapped(0, 0)), apply,
             set_call([98]), set_call([98, 97]), map_call([97]), map_call([97, NO_POINT]), rule_call(8, [1]),
             rule_call(0, match(a="a") + put(NO_POINT)), rule_call(0, []), turn_call(1, 0), turn_call(0, 2),
-            has_call(1, 5), look_call(1, 5), find_call(1, 0, []), apply_call(0, []), apply_call(2, "abc"), steps_call(3, [NO_POINT]),
-            apply)
+            has_call(1, 5), look_call(1, 5), find_call(1, 0, []), apply_call(0, []), apply_call(2, "abc"),
+            steps_call(3, [NO_POINT]), apply)
         x = [120, 0, 1, 98, 1, 2, 99, 2, 3]
         self.assertEqual(given, [
             [0], [0], [0], x, [-1], [-2], [-1], [-2], [-2], [-3, 1], [-3, 0], [-1], [-1], [-1], [-1], [-1], [-1], [-2],
